@@ -1,0 +1,1 @@
+"""Giveway: hands that copy what they send, or give it away."""

@@ -1,0 +1,83 @@
+"""Some rules of the language in which the package is written; what a test can't see is left to the reader."""
+
+import ast
+import pathlib
+import re
+import unittest
+
+PACKAGE = pathlib.Path(__file__).resolve().parent.parent / "giveway"
+FILES = sorted(PACKAGE.rglob("*.py"))
+
+BARRED = (
+    "type", "typing", "typing_extensions", "enum", "Enum", "IntEnum", "StrEnum", "Flag", "IntFlag", "Generic",
+    "Protocol", "ABC", "ABCMeta", "namedtuple", "NamedTuple", "TypedDict", "TYPE_CHECKING", "abstractmethod",
+)
+BUILTINS = (
+    "len range enumerate zip min max sum abs sorted reversed int str bool list tuple dict set isinstance ord repr "
+    "any all divmod iter next super ValueError"
+).split()
+
+
+def trees():
+    for file in FILES:
+        yield file.name, ast.parse(file.read_text())
+
+
+class TestLanguage(unittest.TestCase):
+    def test_folder_has_plain_files_alone(self):
+        for file in PACKAGE.rglob("*"):
+            if "__pycache__" not in file.parts:
+                self.assertRegex(file.name, r"^(__init__|[a-z][a-z0-9_]*)\.py$")
+
+    def test_sizes_and_signs(self):
+        for file in FILES:
+            text = file.read_text()
+            self.assertRegex(text, r"\A[ -~\n]*\Z", file.name)
+            self.assertNotIn("%", text, file.name)
+            self.assertLessEqual(len(text.splitlines()), 400, file.name)
+            for line in text.splitlines():
+                self.assertLessEqual(len(line), 120, f"{file.name}: {line}")
+
+    def test_barred_words(self):
+        for file in FILES:
+            words = set(re.findall(r"\w+", file.read_text()))
+            self.assertEqual(words & set(BARRED), set(), file.name)
+
+    def test_functions_are_small(self):
+        for name, tree in trees():
+            for node in ast.walk(tree):
+                if isinstance(node, ast.FunctionDef):
+                    self.assertLessEqual(node.end_lineno - node.lineno + 1, 40, f"{name}: {node.name}")
+
+    def test_imports_are_of_the_package(self):
+        for name, tree in trees():
+            for node in ast.walk(tree):
+                self.assertNotIsInstance(node, ast.Import, name)
+                if isinstance(node, ast.ImportFrom):
+                    self.assertEqual(node.level, 0, name)
+                    self.assertTrue(node.module.startswith("giveway."), name)
+
+    def test_names(self):
+        for name, tree in trees():
+            for node in ast.walk(tree):
+                if isinstance(node, ast.Name):
+                    self.assertFalse(node.id.startswith("_"), f"{name}: {node.id}")
+                    if isinstance(node.ctx, ast.Store):
+                        self.assertNotIn(node.id, BUILTINS, name)
+                if isinstance(node, ast.arg):
+                    self.assertNotIn(node.arg, BUILTINS, name)
+
+    def test_expressions(self):
+        for name, tree in trees():
+            for node in ast.walk(tree):
+                self.assertNotIsInstance(node, (ast.Global, ast.Div, ast.AsyncFunctionDef), name)
+                if isinstance(node, ast.Constant):
+                    self.assertNotIsInstance(node.value, float, name)
+                if isinstance(node, ast.Compare) and any(isinstance(op, (ast.Is, ast.IsNot)) for op in node.ops):
+                    self.assertIsInstance(node.comparators[0], ast.Constant, name)
+                if isinstance(node, ast.Call) and isinstance(node.func, ast.Name):
+                    self.assertNotIn(node.func.id, ("print", "open", "input", "chr", "getattr", "hash", "id"), name)
+
+
+if __name__ == "__main__":
+    unittest.main()
