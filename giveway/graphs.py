@@ -107,11 +107,15 @@ def replaced(graph, b, k, place):
     return graph[:b] + (box[:k] + (place,) + box[k + 1:],) + graph[b + 1:]
 
 
+def can_grow(graph):
+    """Whether a graph has room for one box more."""
+    return len(graph) < MOST_BOXES and graph_size(graph, MOST_DEEP) < MOST_IN_ALL
+
+
 def grown(graph):
     """The graph with one box of noughts more, where there is room; else itself."""
-    if boxes_in(graph) < MOST_IN_ALL and len(graph) < MOST_BOXES:
-        return graph + BARE
-    return graph
+    check_graph(graph)
+    return graph + BARE if can_grow(graph) else graph
 
 
 def with_number(graph, b, k, *, number):
@@ -132,15 +136,17 @@ def with_tie(graph, b, k, *, to):
     return replaced(graph, b, k, ("tie", to))
 
 
+def can_hang(graph, b, k, other):
+    """Whether a graph comes of it where another one is hung at the place."""
+    return has_box(graph, b) and is_graph(replaced(graph, b, k, other))
+
+
 def with_graph(graph, b, k, *, other):
     """The graph with another one at the place, where there is such a box and a graph comes of it; else itself."""
     check_graph(graph)
     check_place(k)
     check_graph(other)
-    if not has_box(graph, b):
-        return graph
-    made = replaced(graph, b, k, other)
-    return made if is_graph(made) else graph
+    return replaced(graph, b, k, other) if can_hang(graph, b, k, other) else graph
 
 
 def sort_at(graph, b, k):

@@ -14,7 +14,7 @@ BARRED = (
 )
 BUILTINS = (
     "len range enumerate zip min max sum abs sorted reversed int str bool list tuple dict set isinstance ord repr "
-    "any all divmod iter next super ValueError"
+    "any all divmod iter next super ValueError NotImplementedError"
 ).split()
 
 
@@ -77,6 +77,44 @@ class TestLanguage(unittest.TestCase):
                     self.assertIsInstance(node.comparators[0], ast.Constant, name)
                 if isinstance(node, ast.Call) and isinstance(node.func, ast.Name):
                     self.assertNotIn(node.func.id, ("print", "open", "input", "chr", "getattr", "hash", "id"), name)
+
+    def test_no_name_is_both_a_method_and_an_attribute(self):
+        methods, attributes = set(), set()
+        for name, tree in trees():
+            for node in ast.walk(tree):
+                if isinstance(node, ast.ClassDef):
+                    methods |= {part.name for part in node.body if isinstance(part, ast.FunctionDef)}
+                if isinstance(node, ast.Attribute) and isinstance(node.ctx, ast.Store):
+                    attributes.add(node.attr)
+        self.assertEqual(methods & attributes, set())
+
+    def test_no_local_name_is_that_of_an_import_or_a_class(self):
+        for name, tree in trees():
+            barred = {part.name for part in tree.body if isinstance(part, ast.ClassDef)}
+            for node in tree.body:
+                if isinstance(node, ast.ImportFrom):
+                    barred |= {alias.name for alias in node.names}
+            for node in ast.walk(tree):
+                if isinstance(node, ast.Name) and isinstance(node.ctx, ast.Store):
+                    self.assertNotIn(node.id, barred, name)
+                if isinstance(node, ast.arg):
+                    self.assertNotIn(node.arg, barred, name)
+                if isinstance(node, (ast.MatchAs, ast.MatchStar)):
+                    self.assertNotIn(node.name, barred | set(BUILTINS), name)
+
+    def test_no_import_is_idle(self):
+        for name, tree in trees():
+            words = [node.id for node in ast.walk(tree) if isinstance(node, ast.Name)]
+            for node in tree.body:
+                if isinstance(node, ast.ImportFrom):
+                    for alias in node.names:
+                        self.assertIn(alias.name, words, name)
+
+    def test_errors_are_made_on_the_spot(self):
+        for name, tree in trees():
+            for node in ast.walk(tree):
+                if isinstance(node, ast.Raise):
+                    self.assertIsInstance(node.exc, ast.Call, name)
 
 
 if __name__ == "__main__":
