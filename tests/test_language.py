@@ -1,6 +1,7 @@
 """Some rules of the language in which the package is written; what a test can't see is left to the reader."""
 
 import ast
+import builtins
 import pathlib
 import re
 import unittest
@@ -101,6 +102,69 @@ class TestLanguage(unittest.TestCase):
                     self.assertNotIn(node.arg, barred, name)
                 if isinstance(node, (ast.MatchAs, ast.MatchStar)):
                     self.assertNotIn(node.name, barred | set(BUILTINS), name)
+
+    def test_no_name_is_that_of_a_builtin(self):
+        barred = {name for name in dir(builtins) if not name.startswith("_")}
+        for name, tree in trees():
+            for node in ast.walk(tree):
+                if isinstance(node, ast.Name) and isinstance(node.ctx, ast.Store):
+                    self.assertNotIn(node.id, barred, name)
+                if isinstance(node, ast.arg):
+                    self.assertNotIn(node.arg, barred, name)
+
+    def test_a_name_is_bound_once_in_a_file(self):
+        for name, tree in trees():
+            bound = [part.name for part in tree.body if isinstance(part, (ast.FunctionDef, ast.ClassDef))]
+            for node in tree.body:
+                if isinstance(node, ast.ImportFrom):
+                    bound += [alias.name for alias in node.names]
+                if isinstance(node, ast.Assign):
+                    bound += [target.id for target in node.targets]
+            self.assertEqual(len(bound), len(set(bound)), name)
+
+    def test_captured_names_are_assigned_nowhere_else(self):
+        for name, tree in trees():
+            for function in ast.walk(tree):
+                if not isinstance(function, ast.FunctionDef):
+                    continue
+                nodes = list(ast.walk(function))
+                captured = {node.name for node in nodes if isinstance(node, (ast.MatchAs, ast.MatchStar)) and node.name}
+                stored = {node.id for node in nodes if isinstance(node, ast.Name) and isinstance(node.ctx, ast.Store)}
+                stored |= {node.arg for node in nodes if isinstance(node, ast.arg)}
+                self.assertEqual(captured & stored, set(), f"{name}: {function.name}")
+
+    def test_attributes_that_are_read_are_assigned(self):
+        stored, read = set(dir(str)) | set(dir(list)) | set(dir(dict)), set()
+        for name, tree in trees():
+            for node in ast.walk(tree):
+                if isinstance(node, ast.ClassDef):
+                    stored |= {part.name for part in node.body if isinstance(part, ast.FunctionDef)}
+                if isinstance(node, ast.Attribute):
+                    (stored if isinstance(node.ctx, ast.Store) else read).add(node.attr)
+        self.assertEqual(read - stored, set())
+
+    def test_no_two_files_import_from_each_other(self):
+        imports = {}
+        for name, tree in trees():
+            imports[name] = [f"{node.module[8:]}.py" for node in tree.body if isinstance(node, ast.ImportFrom)]
+        done = set()
+        while len(done) < len(imports):
+            ready = {name for name in imports if name not in done and set(imports[name]) <= done}
+            self.assertTrue(ready, set(imports) - done)
+            done |= ready
+
+    def test_imports_name_the_file_that_defines_it(self):
+        defined = {}
+        for name, tree in trees():
+            defined[name] = {part.name for part in tree.body if isinstance(part, (ast.FunctionDef, ast.ClassDef))}
+            for node in tree.body:
+                if isinstance(node, ast.Assign):
+                    defined[name] |= {target.id for target in node.targets}
+        for name, tree in trees():
+            for node in tree.body:
+                if isinstance(node, ast.ImportFrom):
+                    for alias in node.names:
+                        self.assertIn(alias.name, defined[f"{node.module[8:]}.py"], name)
 
     def test_no_import_is_idle(self):
         for name, tree in trees():
